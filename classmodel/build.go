@@ -8,40 +8,69 @@ import (
 	"armature/insn"
 	"armature/octet"
 	"armature/opcode"
-	"armature/pool"
+	"slices"
 )
 
-// builder collects the constants of a class; e is the first error.
+// builder collects the constants of a class in the order in which package pool would add them; e is the first error.
+// It looks constants up in a map, because a class has many references to few constants.
 type builder struct {
-	pool []api.Const
-	e    api.Errno
+	pool  []api.Const
+	index map[api.Const]int
+	e     api.Errno
 }
 
-// take stores the outcome of adding a constant.
-func (b *builder) take(p []api.Const, i int, e api.Errno) int {
-	b.pool = p
+func newBuilder(p []api.Const) *builder {
+	b := &builder{pool: slices.Clip(p), index: map[api.Const]int{}}
+	for i, c := range p {
+		if _, ok := b.index[c]; !ok {
+			b.index[c] = i + 1
+		}
+	}
+	return b
+}
+
+func (b *builder) fail(e api.Errno) {
 	if b.e == api.OK {
 		b.e = e
 	}
-	return i
+}
+
+func (b *builder) add(c api.Const) int {
+	if i, ok := b.index[c]; ok {
+		return i
+	}
+	if len(b.pool) >= api.MaxPool {
+		b.fail(api.ErrTooMany)
+		return 0
+	}
+	b.pool = append(b.pool, c)
+	b.index[c] = len(b.pool)
+	return len(b.pool)
 }
 
 func (b *builder) utf8(s string) int {
-	return b.take(pool.AddUTF8(b.pool, s))
+	return b.add(api.Const{Tag: api.TagUTF8, S: s})
 }
 
 func (b *builder) class(s string) int {
-	return b.take(pool.AddClass(b.pool, s))
+	return b.add(api.Const{Tag: api.TagClass, A: b.utf8(s)})
+}
+
+func (b *builder) member(tag int, r api.Ref) int {
+	owner := b.class(r.Class)
+	name := b.utf8(r.Name)
+	both := b.add(api.Const{Tag: api.TagNameAndType, A: name, B: b.utf8(r.Desc)})
+	return b.add(api.Const{Tag: tag, A: owner, B: both})
 }
 
 func (b *builder) constant(tag, n int, s string) int {
 	if tag == api.TagString {
-		return b.take(pool.AddString(b.pool, s))
+		return b.add(api.Const{Tag: tag, A: b.utf8(s)})
 	}
-	return b.take(pool.Add(b.pool, api.Const{Tag: tag, N: n}))
+	return b.add(api.Const{Tag: tag, N: n})
 }
 
-// raw converts an instruction; it does not look at errors of earlier calls.
+// raw converts an instruction.
 func (b *builder) raw(i api.Insn) (api.Insn, api.Errno) {
 	kind := opcode.OperandKind(i.Op)
 	if kind < 0 {
@@ -56,33 +85,23 @@ func (b *builder) raw(i api.Insn) (api.Insn, api.Errno) {
 	if e := checkSymbolic(i); e != api.OK {
 		return api.Insn{}, e
 	}
-	index, e := b.operand(i)
-	if e != api.OK {
-		return api.Insn{}, e
+	index := b.operand(i)
+	if b.e != api.OK {
+		return api.Insn{}, b.e
 	}
 	return api.Insn{Op: i.Op, A: index}, api.OK
 }
 
-func (b *builder) operand(i api.Insn) (int, api.Errno) {
-	var p []api.Const
-	var index int
-	var e api.Errno
+func (b *builder) operand(i api.Insn) int {
 	switch i.Op {
 	case api.Ldc:
-		if i.B == api.TagString {
-			p, index, e = pool.AddString(b.pool, i.S)
-		} else {
-			p, index, e = pool.Add(b.pool, api.Const{Tag: i.B, N: i.A})
-		}
+		return b.constant(i.B, i.A, i.S)
 	case api.New, api.CheckCast, api.InstanceOf:
-		p, index, e = pool.AddClass(b.pool, i.Ref.Class)
+		return b.class(i.Ref.Class)
 	case api.NewArray:
-		p, index, e = pool.AddUTF8(b.pool, i.S)
-	default:
-		p, index, e = pool.AddMemberRef(b.pool, memberTag(i), i.Ref)
+		return b.utf8(i.S)
 	}
-	b.pool = p
-	return index, e
+	return b.member(memberTag(i), i.Ref)
 }
 
 func memberTag(i api.Insn) int {
@@ -134,7 +153,7 @@ func ToFile(u api.ClassModel) (api.File, api.Errno) {
 	if malformed(u) {
 		return api.File{}, api.ErrMalformed
 	}
-	var b builder
+	b := newBuilder(nil)
 	f, codes, thrown := b.addClass(u)
 	if b.e != api.OK {
 		return api.File{}, b.e
@@ -240,7 +259,7 @@ func (b *builder) addCode(c api.Code) api.Code {
 	r := api.Code{Stack: c.Stack, Locals: c.Locals, Lines: c.Lines}
 	for _, i := range c.Insns {
 		x, e := b.raw(i)
-		if b.take(b.pool, 0, e); b.e != api.OK {
+		if b.fail(e); b.e != api.OK {
 			return api.Code{}
 		}
 		r.Insns = append(r.Insns, x)
@@ -265,7 +284,7 @@ func (b *builder) addVTypes(l []api.VType) []api.VType {
 		switch v.Kind {
 		case api.VRef, api.VUninitialized, api.VUninitializedThis:
 			s, e := desc.Format(v.Type)
-			b.take(b.pool, 0, e)
+			b.fail(e)
 			v.PoolIndex, v.Type = b.utf8(s), api.Type{}
 		}
 		r = append(r, v)
