@@ -115,7 +115,7 @@ func TestVerification(t *testing.T) { // P2
 			if _, _, e := classverify.VerifyWithMaps(l, mapped); e != api.OK {
 				t.Fatal(u.Name, e)
 			}
-			for range 60 {
+			for range 20 {
 				v := mutate(r, mapped)
 				for i, m := range v.Methods {
 					if !m.HasCode {
@@ -157,7 +157,7 @@ func mutate(r *rand.Rand, u api.ClassModel) api.ClassModel {
 		}
 		c.Insns, c.StackMaps = slices.Clone(c.Insns), slices.Clone(c.StackMaps)
 		a, b := r.Intn(len(c.Insns)), r.Intn(len(c.Insns))
-		switch r.Intn(5) {
+		switch r.Intn(7) {
 		case 0:
 			c.Insns[a] = c.Insns[b]
 		case 1:
@@ -167,6 +167,16 @@ func mutate(r *rand.Rand, u api.ClassModel) api.ClassModel {
 		case 3:
 			if c.Insns[a].Op >= api.IfEq && c.Insns[a].Op <= api.Goto {
 				c.Insns[a].To = b
+			}
+		case 5:
+			if k := c.Insns[a].Op; k >= api.ILoad && k <= api.IInc {
+				c.Insns[a].A = r.Intn(c.Locals + 1)
+			}
+		case 6:
+			if c.Insns[a].Ref.Name != "" && c.Insns[a].Op == c.Insns[b].Op {
+				c.Insns[a].Ref = c.Insns[b].Ref
+			} else {
+				c.Insns[a].Ref.Class = []string{"A", "B", "I", "lang/Object"}[r.Intn(4)]
 			}
 		case 4:
 			if n := len(c.StackMaps); n > 0 {
