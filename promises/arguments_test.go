@@ -88,18 +88,29 @@ func fill(r *rand.Rand, v reflect.Value, depth int) {
 	}
 }
 
-func TestAnyArguments(t *testing.T) { // general rules 1, 3 and 5
-	r := rand.New(rand.NewSource(5))
+// build returns the same random arguments for the same seed.
+func build(seed int64, fn reflect.Value) []reflect.Value {
+	r := rand.New(rand.NewSource(seed))
+	var args []reflect.Value
+	for i := range fn.Type().NumIn() {
+		v := reflect.New(fn.Type().In(i)).Elem()
+		fill(r, v, 5)
+		args = append(args, v)
+	}
+	return args
+}
+
+func TestAnyArguments(t *testing.T) { // general rules 1, 3, 4 and 5
 	for k, f := range functions() {
 		fn := reflect.ValueOf(f)
-		for range arguments {
-			var args []reflect.Value
-			for i := range fn.Type().NumIn() {
-				v := reflect.New(fn.Type().In(i)).Elem()
-				fill(r, v, 5)
-				args = append(args, v)
-			}
+		for seed := range int64(arguments) {
+			args := build(seed, fn)
 			first, second := fn.Call(args), fn.Call(args)
+			for i, a := range build(seed, fn) {
+				if !reflect.DeepEqual(a.Interface(), args[i].Interface()) {
+					t.Fatal(k, "an argument has changed", a)
+				}
+			}
 			for i := range first {
 				if !reflect.DeepEqual(first[i].Interface(), second[i].Interface()) {
 					t.Fatal(k, i, first[i], second[i])
@@ -116,6 +127,8 @@ func TestAnyArguments(t *testing.T) { // general rules 1, 3 and 5
 func onlyZero(results, args []reflect.Value) bool {
 	for _, v := range results[:len(results)-1] {
 		ok := v.IsZero() || v.Kind() == reflect.Int || v.Kind() == reflect.String || v.Kind() == reflect.Slice && v.Len() == 0
+		// basicops.Run tells how far it came.
+		ok = ok || v.Type() == reflect.TypeOf(api.Activation{})
 		for _, a := range args {
 			ok = ok || a.Type() == v.Type() && reflect.DeepEqual(a.Interface(), v.Interface())
 		}
