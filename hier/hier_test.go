@@ -4,6 +4,7 @@ import (
 	"armature/api"
 	"reflect"
 	"slices"
+	"strconv"
 	"testing"
 )
 
@@ -100,5 +101,30 @@ func TestLaws(t *testing.T) { // P16.3
 				}
 			}
 		}
+	}
+}
+
+func TestLongLists(t *testing.T) { // P16.1, P16.2
+	l := []api.ClassInfo{class(root, "")}
+	for i := range 1500 {
+		super := root
+		if i > 0 {
+			super = "C" + strconv.Itoa(i-1)
+		}
+		l = append(l, class("C"+strconv.Itoa(i), super))
+	}
+	if s, e := Check(l); s != "" || e != api.OK {
+		t.Error(s, e)
+	}
+	if !IsSubclass(l, "C1499", "C0") || IsSubclass(l, "C0", "C1") || len(Superclasses(l, "C1499")) != 1501 || CommonSuperclass(l, "C1499", "C700") != "C700" || len(Interfaces(l, "C9")) != 0 {
+		t.Error("queries")
+	}
+	l = append(l, class("C7", root))
+	if s, e := Check(l); s != "C7" || e != api.ErrDuplicate {
+		t.Error(s, e)
+	}
+	l[1].Super = "C1499"
+	if s, e := Check(l); s != "C0" || e != api.ErrCircularity {
+		t.Error(s, e)
 	}
 }
